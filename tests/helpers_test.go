@@ -1,0 +1,143 @@
+package tests
+
+import (
+	"fmt"
+	"math"
+	"testing"
+
+	"loop.example/g01344/impl"
+)
+
+// show tells all values apart that the document tells apart (0 and -0, too),
+// and none that it does not (NaN of other bits, nil and empty slices).
+func show(list ...any) string { return fmt.Sprintln(list...) }
+
+// expect compares results with what is wanted, both being told as values.
+func expect(t *testing.T, name string, got, want string) {
+	t.Helper()
+	if got != want {
+		t.Errorf("%s: got %s want %s", name, got, want)
+	}
+}
+
+// Numbers at which rounding, signs and limits matter.
+var (
+	negZero  = float32(math.Copysign(0, -1))
+	nan      = float32(math.NaN())
+	otherNaN = math.Float32frombits(0xffc00123)
+	inf      = float32(math.Inf(1))
+	tiny     = float32(math.SmallestNonzeroFloat32)
+)
+
+// above returns the next greater number.
+func above(a float32) float32 { return math.Nextafter32(a, inf) }
+
+// below returns the next lesser number.
+func below(a float32) float32 { return math.Nextafter32(a, -inf) }
+
+// isPlain and isPart are told by the document, not by the package.
+func isPlain(a float32) bool { return -1048576 <= a && a <= 1048576 }
+
+func isPart(a float32) bool { return 0 <= a && a <= 1 }
+
+// rounds is a product, quotient, sum or difference of two narrow numbers that
+// was made wide. There is no need to round it once more for wide numbers: they
+// have more than twice the digits.
+func rounds(wide float64) float32 { return float32(wide) }
+
+func product(a, b float32) float32 { return rounds(float64(a) * float64(b)) }
+
+func quotient(a, b float32) float32 { return rounds(float64(a) / float64(b)) }
+
+func sum(a, b float32) float32 { return rounds(float64(a) + float64(b)) }
+
+func difference(a, b float32) float32 { return rounds(float64(a) - float64(b)) }
+
+// picker picks numbers that look like chance, and are the same in each run.
+type picker uint64
+
+func (p *picker) below(n int) int {
+	*p = *p*6364136223846793005 + 1442695040888963407
+	return int(uint64(*p) >> 33 % uint64(n))
+}
+
+func (p *picker) teeth() int16 { return int16(6 + p.below(195)) }
+
+func (p *picker) loss() float32 {
+	switch p.below(8) {
+	case 0:
+		return 0
+	case 1:
+		return negZero
+	case 2:
+		return 1
+	case 3:
+		return tiny
+	}
+	return float32(p.below(1<<24)) / (1 << 24)
+}
+
+func (p *picker) train(pairs int) impl.Train {
+	var t impl.Train
+	for range pairs {
+		t = append(t, impl.Pair{Driver: p.teeth(), Driven: p.teeth(), Loss: p.loss()})
+	}
+	return t
+}
+
+// plain picks a plain number of any size and sign, subnormal ones too.
+func (p *picker) plain() float32 {
+	for {
+		a := math.Float32frombits(uint32(p.below(1<<30))<<2 | uint32(p.below(4)))
+		if isPlain(a) {
+			return a
+		}
+	}
+}
+
+// someTrains are valid trains of all lengths.
+func someTrains(count int) []impl.Train {
+	p := picker(1)
+	list := []impl.Train{
+		{{Driver: 12, Driven: 48, Loss: 0.5}, {Driver: 20, Driven: 10}},
+		{{Driver: 6, Driven: 200}},
+		{{Driver: 200, Driven: 6, Loss: 1}},
+		repeated(impl.Pair{Driver: 6, Driven: 200, Loss: 0.25}, 8),
+		repeated(impl.Pair{Driver: 200, Driven: 6, Loss: negZero}, 8),
+	}
+	for len(list) < count {
+		list = append(list, p.train(1+p.below(8)))
+	}
+	return list
+}
+
+func pairOf(driver, driven int16, loss float32) impl.Pair {
+	return impl.Pair{Driver: driver, Driven: driven, Loss: loss}
+}
+
+func repeated(p impl.Pair, count int) impl.Train {
+	t := impl.Train{}
+	for range count {
+		t = append(t, p)
+	}
+	return t
+}
+
+// badTrains are trains that are not valid, each for one reason.
+func badTrains() []impl.Train {
+	good := impl.Pair{Driver: 12, Driven: 48, Loss: 0.5}
+	list := []impl.Train{nil, {}, repeated(good, 9)}
+	for _, teeth := range []int16{5, 201, 0, -12, math.MinInt16, math.MaxInt16} {
+		list = append(list,
+			impl.Train{{Driver: teeth, Driven: 48}},
+			impl.Train{{Driver: 12, Driven: teeth}},
+			impl.Train{good, good, {Driver: teeth, Driven: 48}},
+			impl.Train{good, {Driver: 12, Driven: teeth}, good})
+	}
+	for _, loss := range []float32{above(1), -tiny, -1, 2, inf, -inf, nan, otherNaN} {
+		list = append(list,
+			impl.Train{{Driver: 12, Driven: 48, Loss: loss}},
+			append(repeated(good, 7), impl.Pair{Driver: 12, Driven: 48, Loss: loss}))
+	}
+	return list
+}
