@@ -315,7 +315,7 @@ func TestRadiusOf(t *testing.T) {
 	for _, module := range []float32{below(1.0 / 16), above(64), 0, negZero, -1, inf, -inf, nan} {
 		radius, one := impl.RadiusOf(12, module)
 		distances, two := impl.DistancesOf(impl.Train{{Driver: 12, Driven: 48}}, module)
-		expect(t, "module", show(radius, one, distances, two), show(0, impl.ErrRange, nil2(), impl.ErrRange))
+		expect(t, "module", show(radius, one, distances, two), show(0, impl.ErrRange, noNumbers(), impl.ErrRange))
 	}
 	for _, teeth := range []int64{5, 201, 0, -12, math.MinInt64, math.MaxInt64, 1<<32 + 12, 1<<16 + 12} {
 		radius, code := impl.RadiusOf(teeth, 1)
@@ -323,8 +323,8 @@ func TestRadiusOf(t *testing.T) {
 	}
 }
 
-// nil2 is a list of numbers as it stands beside an error.
-func nil2() []float32 { return nil }
+// noNumbers is a list of numbers as it stands beside an error.
+func noNumbers() []float32 { return nil }
 
 func TestDistancesOf(t *testing.T) {
 	p := picker(4)
@@ -410,7 +410,7 @@ func expectRange(t *testing.T, a impl.Train, x float32) {
 	lost, five := impl.LostPower(a, x, 1)
 	more, six := impl.LostPower(a, 1, x)
 	expect(t, "codes", show(one, two, three, four, five, six), show(2, 2, 2, 2, 2, 2))
-	expect(t, "zero values", show(speeds, torques, first, second, lost, more), show(nil2(), nil2(), nil2(), nil2(), 0, 0))
+	expect(t, "zero values", show(speeds, torques, first, second, lost, more), show(noNumbers(), noNumbers(), noNumbers(), noNumbers(), 0, 0))
 }
 
 func TestNumberTexts(t *testing.T) {
