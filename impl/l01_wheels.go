@@ -63,20 +63,32 @@ func CodeName(code int64) string {
 }
 
 // SameNumber reports whether two numbers are the same.
-func SameNumber(a, b float32) bool {
-	if isNaN(a) || isNaN(b) {
-		return isNaN(a) && isNaN(b)
-	}
-	return math.Float32bits(a) == math.Float32bits(b)
-}
+func SameNumber(a, b float32) bool { return bitsOf(a) == bitsOf(b) }
 
-func isNaN(a float32) bool { return math.IsNaN(float64(a)) }
+// bitsOf returns the bits of a number, and the same ones for every NaN.
+func bitsOf(a float32) uint32 {
+	if math.IsNaN(float64(a)) {
+		return 0x7fc00000
+	}
+	return math.Float32bits(a)
+}
 
 // IsPlain reports whether a number is plain.
 func IsPlain(a float32) bool { return a >= -MaxSize && a <= MaxSize }
 
 // IsPart reports whether a number is a part.
 func IsPart(a float32) bool { return a >= 0 && a <= 1 }
+
+// isPlainSize reports whether a number is the size of a plain one.
+func isPlainSize(a float32) bool { return a >= 0 && a <= MaxSize }
+
+// sizeOf returns the size of a number; that of -0 is -0.
+func sizeOf(a float32) float32 {
+	if a < 0 {
+		return 0 - a
+	}
+	return a
+}
 
 // ValidTrain reports whether a train is valid.
 func ValidTrain(t Train) bool {
@@ -397,10 +409,7 @@ func TurnsToMeet(t Train, pair int64) (int64, int64) {
 
 // NumberText returns the text of a number.
 func NumberText(a float32) string {
-	if isNaN(a) {
-		return "7fc00000"
-	}
-	digits := strconv.FormatUint(uint64(math.Float32bits(a)), 16)
+	digits := strconv.FormatUint(uint64(bitsOf(a)), 16)
 	return strings.Repeat("0", 8-len(digits)) + digits
 }
 
