@@ -3,6 +3,7 @@ package tests
 import (
 	"fmt"
 	"math"
+	"slices"
 	"testing"
 
 	"loop.example/g01344/impl"
@@ -35,10 +36,22 @@ func above(a float32) float32 { return math.Nextafter32(a, inf) }
 // below returns the next lesser number.
 func below(a float32) float32 { return math.Nextafter32(a, -inf) }
 
+// plainest is the greatest plain number.
+const plainest = float32(1048576)
+
 // isPlain and isPart are told by the document, not by the package.
-func isPlain(a float32) bool { return -1048576 <= a && a <= 1048576 }
+func isPlain(a float32) bool { return -plainest <= a && a <= plainest }
 
 func isPart(a float32) bool { return 0 <= a && a <= 1 }
+
+// isSize tells whether a number is at least 0, and plain.
+func isSize(a float32) bool { return 0 <= a && a <= plainest }
+
+// notSizes are numbers that isSize is not true of.
+var notSizes = []float32{-tiny, -1, above(plainest), inf, -inf, nan, otherNaN}
+
+// noParts are numbers that isPart is not true of.
+var noParts = []float32{-tiny, above(1), 2, inf, -inf, nan, otherNaN}
 
 // rounds is a product, quotient, sum or difference of two narrow numbers that
 // was made wide. There is no need to round it once more for wide numbers: they
@@ -53,12 +66,38 @@ func sum(a, b float32) float32 { return rounds(float64(a) + float64(b)) }
 
 func difference(a, b float32) float32 { return rounds(float64(a) - float64(b)) }
 
+// tellsApart fails if a formula differs nowhere on a list from one that it must
+// not be taken for: such a list could not tell both apart.
+func tellsApart[E any](t *testing.T, name string, list []E, want, otherwise func(E) float32) {
+	t.Helper()
+	differs := func(e E) bool { return want(e) != otherwise(e) }
+	if !slices.ContainsFunc(list, differs) {
+		t.Errorf("nothing tells the formula from the other one: %s", name)
+	}
+}
+
+// roomy returns a copy of a list with room behind it, which is filled.
+func roomy[E any](list []E, filling E) []E {
+	wide := append(slices.Clone(list), slices.Repeat([]E{filling}, 16)...)
+	return wide[:len(list)]
+}
+
+// all shows a list with what is behind it.
+func all[E any](list []E) string { return show(list, list[:cap(list)]) }
+
 // picker picks numbers that look like chance, and are the same in each run.
 type picker uint64
 
 func (p *picker) below(n int) int {
 	*p = *p*6364136223846793005 + 1442695040888963407
 	return int(uint64(*p) >> 33 % uint64(n))
+}
+
+// between picks a number from low to high; small ones as often as great ones.
+func (p *picker) between(low, high float32) float32 {
+	part := float64(p.below(1<<20)) / (1 << 20)
+	a := float32(float64(low) * math.Pow(float64(high)/float64(low), part))
+	return min(max(a, low), high)
 }
 
 func (p *picker) teeth() int16 { return int16(6 + p.below(195)) }

@@ -9,12 +9,6 @@ import (
 	"loop.example/g01344/impl"
 )
 
-// notSizes are numbers that neither a tension nor a length may be.
-var notSizes = []float32{-tiny, -1, above(plainest), inf, -inf, nan, otherNaN}
-
-// noParts are numbers that a slip may not be.
-var noParts = []float32{-tiny, above(1), 2, inf, -inf, nan, otherNaN}
-
 // tension picks what a belt may be tight by, often a limit.
 func (p *picker) tension() float32 {
 	switch p.below(8) {
@@ -86,19 +80,9 @@ func TestMeasuresOfBelts(t *testing.T) {
 	}
 }
 
-// other tells on how many belts a formula differs from one that it must not be
-// taken for: if there were none, the belts would not tell both apart.
 func other(t *testing.T, name string, want, otherwise func(impl.Belt) float32) {
 	t.Helper()
-	count := 0
-	for _, b := range someBelts(5000) {
-		if want(b) != otherwise(b) {
-			count++
-		}
-	}
-	if count == 0 {
-		t.Errorf("no belt tells the formula from the other one: %s", name)
-	}
+	tellsApart(t, name, someBelts(5000), want, otherwise)
 }
 
 func TestRoundingsOfBelts(t *testing.T) {

@@ -23,15 +23,7 @@ const (
 	leastRadius    = float32(1.0 / 16)
 	greatestRadius = float32(1024)
 	greatestApart  = float32(65536)
-	plainest       = float32(1048576)
 )
-
-// between picks a number from low to high; small ones as often as great ones.
-func (p *picker) between(low, high float32) float32 {
-	part := float64(p.below(1<<20)) / (1 << 20)
-	a := float32(float64(low) * math.Pow(float64(high)/float64(low), part))
-	return min(max(a, low), high)
-}
 
 func (p *picker) radius() float32 {
 	switch p.below(10) {
@@ -200,9 +192,6 @@ func withRadii(b impl.Belt, a float32) func(float32) float32 {
 		return wantLength(b)
 	}
 }
-
-// isSize tells whether a number is at least 0, and plain.
-func isSize(a float32) bool { return 0 <= a && a <= plainest }
 
 func wantApart(b impl.Belt, length float32, times int) (float32, int) {
 	if !isSize(length) {

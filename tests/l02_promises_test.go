@@ -43,15 +43,6 @@ func beltCalls() map[string]func(beltArguments) string {
 	}
 }
 
-// roomy returns a copy of a list with room behind it, which is filled.
-func roomy[E any](list []E, filling E) []E {
-	wide := append(slices.Clone(list), slices.Repeat([]E{filling}, 16)...)
-	return wide[:len(list)]
-}
-
-// all shows a list with what is behind it.
-func all[E any](list []E) string { return show(list, list[:cap(list)]) }
-
 func pickBeltArguments(p *picker, good, bad []impl.Belt) beltArguments {
 	numbers := []float32{0, negZero, tiny, -tiny, leastRadius, 0.5, 1, above(1), 2, -3, 51.09375, 100, 1024, 5000, 65536, 140000, plainest, above(plainest), -plainest, inf, -inf, nan, otherNaN}
 	texts := []string{"", "40800000 40000000 41800000 3e800000 open", "40800000 40000000 41800000 3e800000 crossed", "40800000 40000000 41800000 3e800000 ", "\xff"}
