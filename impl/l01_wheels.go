@@ -428,6 +428,20 @@ func ReadNumber(text string) (float32, int64) {
 	return a, OK
 }
 
+// readNumbers returns the numbers with several texts; false if one is no text
+// of a number.
+func readNumbers(texts []string) ([]float32, bool) {
+	list := make([]float32, 0, len(texts))
+	for _, text := range texts {
+		number, code := ReadNumber(text)
+		if code != OK {
+			return nil, false
+		}
+		list = append(list, number)
+	}
+	return list, true
+}
+
 // TrainText returns the text of a train.
 func TrainText(t Train) string {
 	if !ValidTrain(t) {

@@ -4,6 +4,7 @@ import (
 	"fmt"
 	"math"
 	"slices"
+	"sync"
 	"testing"
 
 	"loop.example/g01344/impl"
@@ -66,6 +67,46 @@ func sum(a, b float32) float32 { return rounds(float64(a) + float64(b)) }
 
 func difference(a, b float32) float32 { return rounds(float64(a) - float64(b)) }
 
+// sameNumbers tells whether two numbers, none of which is NaN, are the same.
+func sameNumbers(a, b float32) bool { return math.Float32bits(a) == math.Float32bits(b) }
+
+// wantHalved halves as often as told: it looks for the number of which told is
+// found, or nearly.
+func wantHalved(low, high, told float32, times int, found func(float32) float32) float32 {
+	for range times {
+		middle := quotient(sum(low, high), 2)
+		if found(middle) > told {
+			high = middle
+		} else {
+			low = middle
+		}
+	}
+	return low
+}
+
+// expectEqual expects equal results of equal arguments, each time.
+func expectEqual[A any](t *testing.T, calls map[string]func(A) string, first, second A) {
+	t.Helper()
+	for name, call := range calls {
+		once := call(first)
+		expect(t, name+" of equal arguments", call(second), once)
+		expect(t, name+" once more", call(first), once)
+	}
+}
+
+// expectAtOnce expects equal results of calls that are made at once.
+func expectAtOnce[A any](t *testing.T, calls map[string]func(A) string, arguments A) {
+	t.Helper()
+	var group sync.WaitGroup
+	for name, call := range calls {
+		once := call(arguments)
+		for range 4 {
+			group.Go(func() { expect(t, name+" at once", call(arguments), once) })
+		}
+	}
+	group.Wait()
+}
+
 // tellsApart fails if a formula differs nowhere on a list from one that it must
 // not be taken for: such a list could not tell both apart.
 func tellsApart[E any](t *testing.T, name string, list []E, want, otherwise func(E) float32) {
@@ -98,6 +139,32 @@ func (p *picker) between(low, high float32) float32 {
 	part := float64(p.below(1<<20)) / (1 << 20)
 	a := float32(float64(low) * math.Pow(float64(high)/float64(low), part))
 	return min(max(a, low), high)
+}
+
+// upTo picks a number from 0 to a great one, often a limit or nearly none.
+func (p *picker) upTo(greatest float32) float32 {
+	switch p.below(12) {
+	case 0:
+		return 0
+	case 1:
+		return negZero
+	case 2:
+		return float32(p.below(20)) * tiny
+	case 3:
+		return greatest
+	}
+	return p.between(1.0/1024, greatest)
+}
+
+// oneOf picks one of a list.
+func oneOf[E any](p *picker, list []E) E { return list[p.below(len(list))] }
+
+// mostly picks one of a list of good ones, and sometimes one of bad ones.
+func mostly[E any](p *picker, good, bad []E) E {
+	if p.below(5) == 0 {
+		return oneOf(p, bad)
+	}
+	return oneOf(p, good)
 }
 
 func (p *picker) teeth() int16 { return int16(6 + p.below(195)) }

@@ -92,11 +92,7 @@ func TestPromise1OfWheels(t *testing.T) {
 		second := first
 		second.a, second.b = spacious(first.a), spacious(first.b)
 		a, b := whole(second.a), whole(second.b)
-		for name, call := range calls {
-			once := call(first)
-			expect(t, name+" of equal arguments", call(second), once)
-			expect(t, name+" once more", call(first), once)
-		}
+		expectEqual(t, calls, first, second)
 		expect(t, "first argument", whole(second.a), a)
 		expect(t, "second argument", whole(second.b), b)
 	}

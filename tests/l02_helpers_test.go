@@ -165,19 +165,6 @@ func wantSpeed(b impl.Belt, speed, slip float32) float32 {
 	return out
 }
 
-// wantHalved halves as often as told.
-func wantHalved(low, high, length float32, times int, lengthWith func(float32) float32) float32 {
-	for range times {
-		middle := quotient(sum(low, high), 2)
-		if lengthWith(middle) > length {
-			high = middle
-		} else {
-			low = middle
-		}
-	}
-	return low
-}
-
 // withApart and withRadii tell the lengths of belts that differ in one number.
 func withApart(b impl.Belt) func(float32) float32 {
 	return func(apart float32) float32 {

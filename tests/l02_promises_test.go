@@ -76,11 +76,7 @@ func TestPromise1OfBelts(t *testing.T) {
 		second.list = roomy(first.list, beltOf(77, 88, 999, 1))
 		second.numbers = roomy(first.numbers, 77)
 		list, numbers := all(second.list), all(second.numbers)
-		for name, call := range calls {
-			once := call(first)
-			expect(t, name+" of equal arguments", call(second), once)
-			expect(t, name+" once more", call(first), once)
-		}
+		expectEqual(t, calls, first, second)
 		expect(t, "belts", all(second.list), list)
 		expect(t, "numbers", all(second.numbers), numbers)
 	}

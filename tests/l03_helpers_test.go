@@ -53,20 +53,8 @@ func (p *picker) mill() impl.Mill {
 	return m
 }
 
-// wheelSpeed picks a speed of a wheel, often a limit or nearly none.
-func (p *picker) wheelSpeed() float32 {
-	switch p.below(12) {
-	case 0:
-		return 0
-	case 1:
-		return negZero
-	case 2:
-		return float32(p.below(20)) * tiny
-	case 3:
-		return fastest
-	}
-	return p.between(1.0/1024, fastest)
-}
+// wheelSpeed picks a speed of a wheel.
+func (p *picker) wheelSpeed() float32 { return p.upTo(fastest) }
 
 // flow picks a flow, often one that the buckets of a mill hold nearly, and
 // often a limit or nearly nothing.
@@ -311,9 +299,6 @@ func wantWithin(g impl.Governor, s impl.State, loads []float32) (int, int) {
 	}
 	return from, code
 }
-
-// sameNumbers tells whether two numbers, none of which is NaN, are the same.
-func sameNumbers(a, b float32) bool { return math.Float32bits(a) == math.Float32bits(b) }
 
 func wantSteady(g impl.Governor, s impl.State, load float32) (impl.State, int, int) {
 	for ticks := range 100 {

@@ -4,7 +4,6 @@ import (
 	"math"
 	"slices"
 	"strings"
-	"sync"
 	"testing"
 
 	"loop.example/g01344/impl"
@@ -48,17 +47,6 @@ func waterCalls() map[string]func(waterArguments) string {
 	}
 }
 
-// oneOf picks one of a list.
-func oneOf[E any](p *picker, list []E) E { return list[p.below(len(list))] }
-
-// mostly picks one of a list of good ones, and sometimes one of bad ones.
-func mostly[E any](p *picker, good, bad []E) E {
-	if p.below(5) == 0 {
-		return oneOf(p, bad)
-	}
-	return oneOf(p, good)
-}
-
 func pickWaterArguments(p *picker, governors []impl.Governor) waterArguments {
 	numbers := []float32{0, negZero, tiny, leastLength, 0.5, 1, 2, 16, fastest, 196.25, plainest}
 	badNumbers := append([]float32{-fastest, above(fastest)}, notSizes...)
@@ -90,11 +78,7 @@ func TestPromise1OfWater(t *testing.T) {
 		second := first
 		second.loads = roomy(first.loads, 77)
 		loads := all(second.loads)
-		for name, call := range calls {
-			once := call(first)
-			expect(t, name+" of equal arguments", call(second), once)
-			expect(t, name+" once more", call(first), once)
-		}
+		expectEqual(t, calls, first, second)
 		expect(t, "loads", all(second.loads), loads)
 	}
 }
@@ -104,15 +88,7 @@ func TestPromise1OfWaterAtOnce(t *testing.T) {
 	p := picker(54)
 	governors := someGovernors(20)
 	for range 50 {
-		g := pickWaterArguments(&p, governors)
-		var group sync.WaitGroup
-		for name, call := range waterCalls() {
-			once := call(g)
-			for range 4 {
-				group.Go(func() { expect(t, name+" at once", call(g), once) })
-			}
-		}
-		group.Wait()
+		expectAtOnce(t, waterCalls(), pickWaterArguments(&p, governors))
 	}
 }
 
