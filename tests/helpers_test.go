@@ -111,7 +111,11 @@ func expectAtOnce[A any](t *testing.T, calls map[string]func(A) string, argument
 // not be taken for: such a list could not tell both apart.
 func tellsApart[E any](t *testing.T, name string, list []E, want, otherwise func(E) float32) {
 	t.Helper()
-	differs := func(e E) bool { return want(e) != otherwise(e) }
+	differs := func(e E) bool {
+		a, b := want(e), otherwise(e)
+		bothNaN := a != a && b != b
+		return a != b && !bothNaN
+	}
 	if !slices.ContainsFunc(list, differs) {
 		t.Errorf("nothing tells the formula from the other one: %s", name)
 	}
